@@ -1,0 +1,1 @@
+"""Sealed box: numbers under seals, and the boxes that keep them. The calls are answered by sealedbox.boxes."""
