@@ -1,16 +1,26 @@
 """Bounds: how far off what a table makes may be, and which bounds are sure."""
 
-from sealedbox.words import WORD_BITS
+from sealedbox.words import QUARTER_WORD, WORD_BITS
 
 TWO_TO_35 = 34359738368
 TWO_TO_36 = 68719476736
-QUARTER_WORD = 16384
+# It bounds nothing: no signed word is further off.
+GREATEST_BOUND = 32768
 
 
 def table_bound(form):
     """The bound of what a table makes, not cut at 32768."""
     turned = form.words * turning_bound(form) + (form.size + 1) * TWO_TO_35
     return turned // TWO_TO_36 + changing_bound(form)
+
+
+def made_bound(form):
+    """The bound of a seal that comes out of a table."""
+    return cut(table_bound(form))
+
+
+def cut(bound):
+    return min(bound, GREATEST_BOUND)
 
 
 def turning_bound(form):
@@ -37,3 +47,7 @@ def greatest_sure(form):
     """The greatest bound that is sure, or -1 if none is."""
     rounding = (form.words + 1) * (QUARTER_WORD // form.size)
     return max(form.step // 2 - rounding - 1, -1)
+
+
+def is_sure(form, bound):
+    return bound <= greatest_sure(form)

@@ -35,8 +35,21 @@ def box_fault(boxes, k):
     return None
 
 
-def has_room(box):
-    return len(box.seals) < SEAL_COUNT
+def has_room(box, many):
+    """Whether so many seals more find room."""
+    return len(box.seals) + many <= SEAL_COUNT
+
+
+def may_use(box, many):
+    """Whether there may be so many uses more; none is always allowed, even where the cap is below the uses."""
+    return many == 0 or box.most is None or box.uses + many <= box.most
+
+
+def seals_at(box, places):
+    """The seals at these numbers, or None if one isn't there."""
+    if not all([place in box.seals for place in places]):
+        return None
+    return [box.seals[place] for place in places]
 
 
 def put_seal(box, seal):
@@ -46,3 +59,8 @@ def put_seal(box, seal):
         number = number + 1
     box.seals[number] = seal
     return number
+
+
+def put_seals(box, seals):
+    """Puts the seals one after the other and tells their numbers; there must be room."""
+    return [put_seal(box, seal) for seal in seals]

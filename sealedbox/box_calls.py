@@ -8,40 +8,40 @@ from sealedbox.seals import new_seal, off_by, opened, seal_bytes
 from sealedbox.workpart import MOST_BYTES, part_bytes
 
 
-def answer_give(box, numbers):
+def answer_give(box, numbers, rows):
     if part_size(box.part.form) > MOST_BYTES:
         return refused(TOO_MANY_BYTES)
     return [0] + part_bytes(box.part)
 
 
-def answer_told(box, numbers):
+def answer_told(box, numbers, rows):
     secret = 0 if box.secrets is None else 1
     return [0, secret] + box.part.form.numbers
 
 
-def answer_cap(box, numbers):
+def answer_cap(box, numbers, rows):
     box.most = numbers[1]
     return [0]
 
 
-def answer_uses(box, numbers):
+def answer_uses(box, numbers, rows):
     return [0, box.uses]
 
 
-def answer_seal(box, numbers):
+def answer_seal(box, numbers, rows):
     number = numbers[1]
     form = box.part.form
     if box.secrets is None:
         return refused(NO_SECRETS)
     if not is_sealable(form, number):
         return refused(WRONG_NUMBER)
-    if not has_room(box):
+    if not has_room(box, 1):
         return refused(NO_ROOM)
     seal = new_seal(form, box.secrets.bits, number, Luck(numbers[2]))
     return [0, put_seal(box, seal)]
 
 
-def answer_opened(box, numbers):
+def answer_opened(box, numbers, rows):
     seal = box.seals.get(numbers[1])
     if box.secrets is None:
         return refused(NO_SECRETS)
@@ -50,7 +50,7 @@ def answer_opened(box, numbers):
     return [0, opened(box.part.form, box.secrets.bits, seal)]
 
 
-def answer_off(box, numbers):
+def answer_off(box, numbers, rows):
     seal = box.seals.get(numbers[1])
     number = numbers[2]
     form = box.part.form
@@ -63,14 +63,14 @@ def answer_off(box, numbers):
     return [0, off_by(form, box.secrets.bits, seal, number)]
 
 
-def answer_bound(box, numbers):
+def answer_bound(box, numbers, rows):
     seal = box.seals.get(numbers[1])
     if seal is None:
         return refused(NO_SEAL)
     return [0, seal.bound]
 
 
-def answer_write(box, numbers):
+def answer_write(box, numbers, rows):
     seal = box.seals.get(numbers[1])
     if seal is None:
         return refused(NO_SEAL)
@@ -90,5 +90,5 @@ HANDLERS = {
 }
 
 
-def answer_box_call(kind, box, numbers):
-    return HANDLERS[kind](box, numbers)
+def answer_box_call(kind, box, numbers, rows):
+    return HANDLERS[kind](box, numbers, rows)

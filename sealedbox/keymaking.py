@@ -2,7 +2,7 @@
 
 from sealedbox.luck import put_off
 from sealedbox.polynomials import RING, RING_BITS, added, product
-from sealedbox.words import WORD, WORD_BITS, masked
+from sealedbox.words import WORD, WORD_BITS, weighed
 from sealedbox.workpart import WorkPart
 
 
@@ -60,4 +60,4 @@ def make_rows(form, secrets, luck):
 def make_row(form, secrets, luck, lift):
     words = [luck.next_number(2) for place in range(form.words)]
     error = put_off(luck.next_byte(), form.noise)
-    return words + [(masked(words, secrets.bits) + error + lift) % WORD]
+    return words + [(weighed(words, secrets.bits) + error + lift) % WORD]

@@ -8,8 +8,20 @@ def times_x(polynomial):
     return [-polynomial[-1]] + polynomial[:-1]
 
 
+def times_power(polynomial, power):
+    """X to the power times the polynomial."""
+    turned = list(polynomial)
+    for turn in range(power):
+        turned = times_x(turned)
+    return [number % RING for number in turned]
+
+
 def added(first, second):
     return [(x + y) % RING for x, y in zip(first, second)]
+
+
+def lessened(first, second):
+    return [(x - y) % RING for x, y in zip(first, second)]
 
 
 def product(first, second):

@@ -2,6 +2,7 @@
 
 WORD = 65536
 HALF_WORD = 32768
+QUARTER_WORD = 16384
 WORD_BITS = 16
 
 
@@ -11,6 +12,6 @@ def signed(word):
     return word - WORD
 
 
-def masked(words, bits):
-    """The sum of the words times the secret bits."""
-    return sum([word * bit for word, bit in zip(words, bits)])
+def weighed(numbers, factors):
+    """The sum of the numbers, each times its factor."""
+    return sum([number * factor for number, factor in zip(numbers, factors)])

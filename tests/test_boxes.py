@@ -1,16 +1,22 @@
 """The calls cap (9) and uses (10), and what holds of every list of calls."""
 
+import contextlib
+import io
 import unittest
 
-from helper import FORM, GREATEST, GREATEST_SEED, LEAST, Keys, ask, flat, last
-from sealedbox.box import Box
-from sealedbox.box_calls import answer_cap, answer_uses
+from helper import ADDER, DEEP, FORM, GREATEST, GREATEST_SEED, LEAST, Keys, ask, circuit_bytes, flat, last, parted
 from sealedbox.boxes import answers
 
 LINE = flat(
     ("need", FORM), ("can", FORM), ("luck", 9, 3, 20), ("told", 0), ("key", 0, 5, FORM), ("seal", 0, 3, 8),
     ("open", 0, 0), ("off", 0, 0, 5), ("bound", 0, 0), ("write", 0, 0), ("hand", 1, 0), ("give", 1), ("cap", 1, 4),
     ("uses", 1), ("take", 2, [1, 2, 3]), ("key", 2, 6, []), ("take", 2, Keys(5, LEAST).part()), ("told", 2),
+    ("key", 0, 5, DEEP), ("hand", 1, 0), ("seal", 0, 1, 8), ("send", 0, 0, 1), ("read", 1, 2, [7, 8, 9, 10]),
+    ("add", 1, 0, 1), ("sub", 1, 0, 1), ("times", 1, 0, -3), ("plus", 1, 0, 5), ("mix", 1, [0, 2], [1, 2, -3, 4]),
+    ("sure", 1, 5), ("drop", 1, 3), ("count", 1), ("table", 1, 0, [3, 2, 1, 0]), ("gate", 1, 6, 0, 3),
+    ("circuit", 1, [0, 0, 3], circuit_bytes(*ADDER)), ("judge", 3, circuit_bytes(*ADDER)),
+    ("plain", [1, 0, 1], circuit_bytes(*ADDER)), ("uses", 1), ("mix", 1, [], []), ("circuit", 1, [0], [1, 0, 1]),
+    ("table", 1, 0, [9]), ("gate", 1, 16, 0, 0), ("send", 1, 29, 2), ("plain", [2], []), ("judge", 17, []),
 )
 
 
@@ -28,13 +34,6 @@ class Cap(unittest.TestCase):
     def test_answers(self):
         for most in (0, 1, GREATEST):
             self.assertEqual(last(("key", 0, 1, LEAST), ("cap", 0, most)), [0])
-
-    def test_is_kept(self):
-        box = Box(None, None)
-        self.assertIsNone(box.most)
-        for most in (7, 0, GREATEST):
-            self.assertEqual(answer_cap(box, [0, most]), [0])
-            self.assertEqual(box.most, most)
 
     def test_touches_nothing_else(self):
         calls = (("told", 0), ("uses", 0), ("open", 0, 0), ("give", 0), ("seal", 0, 1, 2))
@@ -55,15 +54,22 @@ class Uses(unittest.TestCase):
         self.assertEqual([told[1]] + told[-2:], [[0, 0]] * 3)
 
     def test_tells_the_box_s_own(self):
-        box = Box(None, None)
-        box.uses = 12
-        self.assertEqual(answer_uses(box, [0]), [0, 12])
+        told = ask(("key", 0, 1, FORM), ("hand", 1, 0), ("seal", 0, 1, 1), *[("table", 0, 0, [1, 2, 3, 4])] * 3,
+                   ("uses", 0), ("uses", 1))
+        self.assertEqual(told[-2:], [[0, 3], [0, 0]])
 
     def test_of_a_box(self):
         self.assertEqual(ask(("uses", 0), ("uses", 2), ("uses", 3), ("uses", GREATEST)), [[-4], [-4], [-1], [-1]])
 
 
 class Line(unittest.TestCase):
+    def test_all_kinds_in_one_list(self):
+        told = parted(answers(LINE))
+        self.assertEqual(told[18:22], [[0], [0], [0, 0], [0, 0]])
+        self.assertEqual(told[22:31], [[0, 1], [0, 2], [0, 3], [0, 4], [0, 5], [0, 6, 7], [0, 1], [0], [0, 7]])
+        self.assertEqual(told[31:37], [[0, 3], [0, 8], [0, 9, 10], [0, 5, 2], [0, 0, 1], [0, 7]])
+        self.assertEqual(told[37:], [[-1], [-9, 3], [-2], [-1], [-5], [-1], [-1]])
+
     def test_counts_stand_ahead_of_answers(self):
         line = [3, 0, 0, 2, 8, 1, 8, 3, 7, 0, 0, 4, 1, 0] + [8] + LEAST + [10, 1]
         self.assertEqual(answers(line), [3, 0, 20, 26, 1, -4, 1, -1, 2, -9, 0, 1, 0, 2, 0, 0])
@@ -100,6 +106,12 @@ class Line(unittest.TestCase):
         self.assertEqual(answers(list(LINE)), kept)
         first.clear()
         self.assertEqual(answers(list(LINE)), kept)
+
+    def test_nothing_is_printed(self):
+        printed = io.StringIO()
+        with contextlib.redirect_stdout(printed), contextlib.redirect_stderr(printed):
+            answers(list(LINE))
+        self.assertEqual(printed.getvalue(), "")
 
     def test_nothing_is_kept(self):
         ask(("key", 0, 1, LEAST), ("hand", 1, 0), ("hand", 2, 0))
